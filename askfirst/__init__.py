@@ -1,0 +1,1 @@
+"""askfirst: when a helper should ask before it acts."""
